@@ -647,7 +647,7 @@ func goodTreeAsSaid(l []impl.Node) bool {
 			return false
 		}
 		chain, ok := chainOf(l, i)
-		if !ok || !isText && len(chain) > 7 || isText && len(chain) > 8 {
+		if !ok || len(chain) > 7 {
 			return false
 		}
 		if i == 0 {
@@ -738,8 +738,14 @@ func TestGoodTree(t *testing.T) {
 		{"far below", []impl.Node{element(-1), element(math.MinInt)}, false},
 		{"8 deep", nested(8), true},
 		{"9 deep", nested(9), false},
-		{"a text in the eighth", append(nested(8), words(7, "a")), true},
+		{"a text in the seventh", append(nested(7), words(6, "a")), true},
+		{"a text in the eighth", append(nested(8), words(7, "a")), false},
+		{"a text of blanks in the eighth", append(nested(8), words(7, " ")), false},
+		{"a text in the ninth", append(nested(9), words(8, "a")), false},
+		{"a text beside the eighth", append(nested(8), words(6, "a")), true},
+		{"a text beside the eighth, and one in it", append(nested(7), words(6, "a"), element(6), words(8, "b")), false},
 		{"back from the eighth, and in again", append(nested(8), element(6), element(0)), true},
+		{"back from the eighth, and a text in again", append(nested(8), element(6), words(8, "a")), false},
 		{"40", beside(40), true},
 		{"41", beside(41), false},
 		{"an element with a text", []impl.Node{element(-1), {Up: 0, Text: "a", Style: plainAsSaid()}}, false},
@@ -808,6 +814,25 @@ func TestEveryShortTree(t *testing.T) {
 	grow([]impl.Node{})
 	if good < 100 {
 		t.Errorf("only %d good trees", good)
+	}
+}
+
+// Nodes of every kind behind elements that stand about as deep as they may.
+func TestEveryDeepTree(t *testing.T) {
+	kinds := []func(int) impl.Node{element, hidden, func(up int) impl.Node { return words(up, "a") }}
+	var grow func(l []impl.Node, more int)
+	grow = func(l []impl.Node, more int) {
+		if !checkTree(t, l) || more == 0 {
+			return
+		}
+		for up := range l {
+			for _, kind := range kinds {
+				grow(append(slices.Clone(l), kind(up)), more-1)
+			}
+		}
+	}
+	for deep := 6; deep <= 9; deep++ {
+		grow(nested(deep), 3)
 	}
 }
 
