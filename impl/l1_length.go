@@ -55,7 +55,7 @@ func PercentOf(base int, percent int) (int, bool) {
 	if !GoodLength(base) || percent < -maxPercent || percent > maxPercent {
 		return 0, false
 	}
-	return length(quotientDown(base*percent, wholePercent)).told()
+	return length(percentOf(base, percent)).told()
 }
 
 func ClampLength(n int, least int, most int) int {
@@ -102,6 +102,12 @@ func JoinMargins(l []int) (int, bool) {
 
 func HalfOf(n int) int {
 	return quotientDown(n, 2)
+}
+
+// percentOf takes numbers beyond lengths too, as what is laid out may have them
+// on the way.
+func percentOf(base int, percent int) int {
+	return quotientDown(base*percent, wholePercent)
 }
 
 // quotientDown wants by above 0. Go's own quotient goes towards 0, which below

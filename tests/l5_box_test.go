@@ -394,6 +394,10 @@ func TestEveryShortTreeHasItsBoxes(t *testing.T) {
 
 // tree throws a good tree: elements of any style, not too many of them hidden, and texts.
 func (d *dice) tree(most int) []impl.Node {
+	return d.treeOf(most, d.style)
+}
+
+func (d *dice) treeOf(most int, style func() impl.Style) []impl.Node {
 	l := []impl.Node{element(-1)}
 	around := []int{0}
 	for many := 1 + d.upTo(most); len(l) < many; {
@@ -403,7 +407,7 @@ func (d *dice) tree(most int) []impl.Node {
 			l = append(l, words(up, d.text()))
 			continue
 		}
-		n := impl.Node{Up: up, Style: d.style()}
+		n := impl.Node{Up: up, Style: style()}
 		if n.Style.Show == 3 && d.upTo(3) > 0 {
 			n.Style.Show = 2
 		}

@@ -36,18 +36,24 @@ func sizeInAsSaid(s impl.Size, base int) (int, bool) {
 	return n, true
 }
 
-// sizesAsSaid tells the left margin, the width and the right margin, of those that are Auto 0; and whether all is as the chapter wants it.
-func sizesAsSaid(s impl.Style, around int) (int, int, int, bool) {
+// sizesAsSaid tells whether the left margin, the width and the right margin are as the chapter wants them.
+func sizesAsSaid(s impl.Style, around int) bool {
 	good := goodStyleAsSaid(s) && around >= 0 && around <= 1000000
-	var n [3]int
-	for i, size := range []impl.Size{s.MarginLeft, s.Width, s.MarginRight} {
+	for _, size := range []impl.Size{s.MarginLeft, s.Width, s.MarginRight} {
 		if !size.Auto {
-			var ok bool
-			n[i], ok = sizeInAsSaid(size, around)
+			_, ok := sizeInAsSaid(size, around)
 			good = good && ok
 		}
 	}
-	return n[0], n[1], n[2], good
+	return good
+}
+
+// sizeTaken tells a size as it comes, with no limit; of one that is Auto 0.
+func sizeTaken(s impl.Size, around int) int {
+	if s.Percent {
+		return int(floorOf(around, s.N, 10000).Int64())
+	}
+	return s.N
 }
 
 func clampAsSaid(s impl.Style, n int) int {
@@ -60,12 +66,16 @@ func clampAsSaid(s impl.Style, n int) int {
 	return n
 }
 
-// blockAsSaid goes along the chapter's words, case by case.
 func blockAsSaid(s impl.Style, around int) (impl.Across, bool) {
-	left, wide, right, ok := sizesAsSaid(s, around)
-	if !ok {
+	if !sizesAsSaid(s, around) {
 		return impl.Across{}, false
 	}
+	return blockTaken(s, around), true
+}
+
+// blockTaken goes along the chapter's words, case by case, and sets no limit.
+func blockTaken(s impl.Style, around int) impl.Across {
+	left, wide, right := sizeTaken(s.MarginLeft, around), sizeTaken(s.Width, around), sizeTaken(s.MarginRight, around)
 	edge := s.Border + s.Border + s.Padding + s.Padding
 	if s.Width.Auto {
 		wide = around - edge - left - right
@@ -74,9 +84,9 @@ func blockAsSaid(s impl.Style, around int) (impl.Across, bool) {
 			right = around - edge - left
 		}
 		if clampAsSaid(s, wide) == wide {
-			return impl.Across{Left: left, Wide: wide, Right: right}, true
+			return impl.Across{Left: left, Wide: wide, Right: right}
 		}
-		_, _, right, _ = sizesAsSaid(s, around)
+		right = sizeTaken(s.MarginRight, around)
 	}
 	wide = clampAsSaid(s, wide)
 	rest := around - edge - wide
@@ -95,14 +105,18 @@ func blockAsSaid(s impl.Style, around int) (impl.Across, bool) {
 	default:
 		right = rest - left
 	}
-	return impl.Across{Left: left, Wide: wide, Right: right}, true
+	return impl.Across{Left: left, Wide: wide, Right: right}
 }
 
 func floatAsSaid(s impl.Style, around int, narrow int, widest int) (impl.Across, bool) {
-	left, wide, right, ok := sizesAsSaid(s, around)
-	if !ok || narrow < 0 || narrow > 1000000 || widest < 0 || widest > 1000000 {
+	if !sizesAsSaid(s, around) || narrow < 0 || narrow > 1000000 || widest < 0 || widest > 1000000 {
 		return impl.Across{}, false
 	}
+	return floatTaken(s, around, narrow, widest), true
+}
+
+func floatTaken(s impl.Style, around int, narrow int, widest int) impl.Across {
+	left, wide, right := sizeTaken(s.MarginLeft, around), sizeTaken(s.Width, around), sizeTaken(s.MarginRight, around)
 	if s.Width.Auto {
 		wide = around - s.Border - s.Border - s.Padding - s.Padding - left - right
 		if wide < narrow {
@@ -112,7 +126,7 @@ func floatAsSaid(s impl.Style, around int, narrow int, widest int) (impl.Across,
 			wide = widest
 		}
 	}
-	return impl.Across{Left: left, Wide: clampAsSaid(s, wide), Right: right}, true
+	return impl.Across{Left: left, Wide: clampAsSaid(s, wide), Right: right}
 }
 
 func restAsSaid(s impl.Style, around int, a impl.Across) (int, bool) {

@@ -122,6 +122,16 @@ func placeAsSaid(l []impl.Aside, side int, wide int, high int, y int, left int, 
 	if !good || !within(wide, 0, 1000000) || !within(high, 0, 1000000) || !nearAsSaid(y, left, right) {
 		return impl.Aside{}, false
 	}
+	a := placeTaken(l, side, wide, high, y, left, right)
+	// What is answered is a float: where it is none that is good it is beyond a limit.
+	if !nearAsSaid(a.X, a.Y) {
+		return impl.Aside{}, false
+	}
+	return a, true
+}
+
+// placeTaken tells a float's place, however far it is.
+func placeTaken(l []impl.Aside, side int, wide int, high int, y int, left int, right int) impl.Aside {
 	y = beginAsSaid(l, y)
 	for _, y := range append([]int{y}, bottomsAsSaid(l, y)...) {
 		from, to := roomLeft(l, y, high, left, right)
@@ -132,25 +142,25 @@ func placeAsSaid(l []impl.Aside, side int, wide int, high int, y int, left int, 
 		if side == impl.SideRight {
 			x = to - wide
 		}
-		// What is answered is a float: where it is none that is good it is beyond a limit.
-		if !nearAsSaid(x, y) {
-			break
-		}
-		return impl.Aside{Side: side, X: x, Y: y, W: wide, H: high}, true
+		return impl.Aside{Side: side, X: x, Y: y, W: wide, H: high}
 	}
-	return impl.Aside{}, false
+	panic("no place below all floats")
 }
 
 func clearAsSaid(l []impl.Aside, clear int, y int) (int, bool) {
 	if !goodFloatsAsSaid(l) || !within(clear, 0, 3) || !nearAsSaid(y) {
 		return 0, false
 	}
+	return clearTaken(l, clear, y), true
+}
+
+func clearTaken(l []impl.Aside, clear int, y int) int {
 	for _, a := range l {
 		if (clear == a.Side || clear == impl.SideBoth) && a.Y+a.H > y {
 			y = a.Y + a.H
 		}
 	}
-	return y, true
+	return y
 }
 
 // inCommon tells whether two stretches, each from a number on, have more than a point in common.

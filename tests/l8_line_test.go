@@ -58,12 +58,17 @@ func alignAsSaid(align int, from int, to int, w int) int {
 	return from + int(floorOf(to-from-w, 1, 2).Int64())
 }
 
-// linesAsSaid goes along the document's words: of all places from y on, y itself and each bottom, the first one at which the line that is cut there may stand.
 func linesAsSaid(f impl.Font, s impl.Style, text string, l []impl.Aside, y int, left int, right int) ([]impl.Line, int, bool) {
 	good := goodFontAsSaid(f) && goodStyleAsSaid(s) && goodFloatsAsSaid(l) && nearAsSaid(y, left, right)
 	if !good || y > 50000000 || !keptTextAsSaid(s.White, text) {
 		return nil, 0, false
 	}
+	lines, end := linesTaken(f, s, text, l, y, left, right)
+	return lines, end, true
+}
+
+// linesTaken goes along the document's words, however far: of all places from y on, y itself and each bottom, the first one at which the line that is cut there may stand.
+func linesTaken(f impl.Font, s impl.Style, text string, l []impl.Aside, y int, left int, right int) ([]impl.Line, int) {
 	var lines []impl.Line
 	high := heightAsSaid(f, s)
 	for text != "" {
@@ -79,7 +84,7 @@ func linesAsSaid(f impl.Font, s impl.Style, text string, l []impl.Aside, y int, 
 			break
 		}
 	}
-	return lines, y, true
+	return lines, y
 }
 
 func lineClearAsSaid(l []impl.Aside, x impl.Line) (bool, bool) {
