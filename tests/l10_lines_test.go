@@ -127,9 +127,7 @@ func runAsSaid(text string) string {
 		lines = lines[1:]
 		answer := "what\n"
 		switch {
-		case line == "tree" && !slices.Contains(lines, "end"):
-			answer, lines = "no\n", nil
-		case line == "tree":
+		case line == "tree" && slices.Contains(lines, "end"):
 			end := slices.Index(lines, "end")
 			answer = answerAsSaid(f, wide, strings.Join(append(slices.Clone(lines[:end]), ""), "\n"))
 			lines = lines[end+1:]
@@ -489,9 +487,13 @@ func TestRunPage(t *testing.T) {
 		{"a tree in a tree", "tree\ntree\nend\nend\n", "no\nwhat\n"},
 		{"an end that is none", "tree\n<\n |end\n <\nend \n end\nend\n", "no\n"},
 		{"a text that is an end", "tree\n<\n |end\nend\n", "box 0 0 0 6400 800\nline 1 0 0 1152 end\nhigh 800\n"},
-		{"a tree without an end", "tree\n<\n |a\n", "no\n"},
-		{"a tree without an end, and commands", "wide 5\ntree\n<\n |a\nwide 5\nfly\n", "ok\nno\n"},
-		{"a tree that is the last line", "fly\ntree\n", "what\nno\n"},
+		{"a tree without an end", "tree\n<\n |a\n", "what\nwhat\nwhat\n"},
+		{"a tree without an end, and commands", "wide 5\ntree\n<\n |a\nwide 5\nwide x\nfly\n", "ok\nwhat\nwhat\nwhat\nok\nno\nwhat\n"},
+		{"a tree that is the last line", "fly\ntree\n", "what\nwhat\n"},
+		{"trees without an end", "tree\ntree\n<\ntree\n", strings.Repeat("what\n", 4)},
+		{"the end of another tree", "tree\nwide 70\n" + plain, "no\n"},
+		{"a tree without an end behind one with it", plain + "tree\nwide 70\n<\n", "box 0 0 0 6400 800\nline 1 0 0 384 a\nhigh 800\nwhat\nok\nwhat\n"},
+		{"what is like an end", "tree\n<\nend \n end\nend.\nEnd\n\n |end\n", strings.Repeat("what\n", 8)},
 		{"no boxes", "tree\n<show:none;\nend\ntree\n<show:inline;\n |a\nend\ntree\n<float:left;\nend\n", "no 2\nno 2\nno 2\n"},
 		{"texts that are too long together", "tree\n<\n |" + strings.Repeat("a", 100) + "\n |" + strings.Repeat("b", 101) + "\nend\n", "no 2\n"},
 		{"far", "tree\n<width:15625px;border:0.25px;\nend\nwide 1\n", "no 3\nok\n"},
@@ -529,6 +531,9 @@ func TestRunPageAtItsLimits(t *testing.T) {
 		strings.Repeat("wide 5\n", 60) + "x":               "",
 		strings.Repeat("tree\nend\n", 30):                  strings.Repeat("no\n", 30),
 		strings.Repeat("tree\nend\n", 30) + "\n":           "",
+		strings.Repeat("tree\n", 60):                       strings.Repeat("what\n", 60),
+		strings.Repeat("tree\n", 59) + "end\n":             "no\n",
+		strings.Repeat("tree\n", 58) + "end\nwide 5\n":     "no\nok\n",
 		"tree\n<\n" + strings.Repeat(" <\n", 40) + "end\n": "no\n",
 		strings.Repeat("a\n", 1000000):                     "",
 	} {
