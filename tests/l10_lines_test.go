@@ -15,8 +15,8 @@ import (
 
 var (
 	nodeForm = regexp.MustCompile(`^( *)(?:<([^\n]*)|\|([^\n]*))\n$`)
-	wideForm = regexp.MustCompile(`^wide ([0-9]{1,6})$`)
-	fontForm = regexp.MustCompile(`^font ([0-9]{1,6}) ([0-9]{1,6}) ([0-9]{1,6}) ([0-9]{1,6}) ([0-9]{1,6})$`)
+	wideForm = regexp.MustCompile(`^wide (0|[1-9][0-9]{0,5})$`)
+	fontForm = regexp.MustCompile(`^font` + strings.Repeat(` (0|[1-9][0-9]{0,5})`, 5) + `$`)
 )
 
 // treeTextAsSaid takes any nodes.
@@ -470,15 +470,18 @@ func TestRunPage(t *testing.T) {
 		{"what is none", "fly\nwhat\nend\nok\n<\n |a\nwideness\nwide5\nWide 5\n wide 5\n tree\n", strings.Repeat("what\n", 11)},
 		{"commands alone", "wide\nfont\n", "what\nwhat\n"},
 		{"a tree that is not alone", "tree \ntree 1\ntrees\n", "what\nwhat\nwhat\n"},
-		{"widths", "wide 0\nwide 1\nwide 100000\nwide 099999\nwide 000000\n", strings.Repeat("ok\n", 5)},
+		{"widths", "wide 0\nwide 1\nwide 10\nwide 99999\nwide 100000\n", strings.Repeat("ok\n", 5)},
+		{"widths with needless noughts", "wide 00\nwide 007\nwide 01\nwide 05000\nwide 099999\nwide 000000\nwide 0100000\n", strings.Repeat("no\n", 7)},
 		{"wrong widths", "wide \nwide 100001\nwide 999999\nwide 1000000\nwide 0000001\nwide -1\nwide +1\nwide x\nwide 1x\nwide  1\nwide 1 \nwide 1 2\nwide 1.5\nwide 0x1\n", strings.Repeat("no\n", 14)},
-		{"fonts", "font 0 0 1 1 1\nfont 6400 6400 6400 6400 6400\nfont 640 160 192 384 640\nfont 000640 0160 192 384 1\n", strings.Repeat("ok\n", 4)},
+		{"fonts", "font 0 0 1 1 1\nfont 6400 6400 6400 6400 6400\nfont 640 160 192 384 640\nfont 10 100 1000 10 100\n", strings.Repeat("ok\n", 4)},
+		{"fonts with needless noughts", "font 00 0 1 1 1\nfont 0 00 1 1 1\nfont 0640 160 192 384 640\nfont 640 0160 192 384 640\nfont 640 160 0192 384 640\nfont 640 160 192 000384 640\nfont 640 160 192 384 0640\n", strings.Repeat("no\n", 7)},
 		{"wrong fonts", "font \nfont 1\nfont 1 1 1 1\nfont 1 1 1 1 1 1\nfont 1 1 1 1 1 \nfont  1 1 1 1 1\nfont 1 1 1  1 1\nfont 1 1 0 1 1\nfont 1 1 1 0 1\nfont 1 1 1 1 0\nfont 6401 1 1 1 1\nfont 1 6401 1 1 1\nfont 1 1 6401 1 1\nfont 1 1 1 6401 1\nfont 1 1 1 1 6401\nfont -1 1 1 1 1\nfont 1 1 1 1 x\nfont 0000001 1 1 1 1\n", strings.Repeat("no\n", 18)},
 		{"a page as at first", plain, "box 0 0 0 6400 800\nline 1 0 0 384 a\nhigh 800\n"},
 		{"a page of another width", "wide 70\n" + plain, "ok\nbox 0 0 0 70 800\nline 1 0 0 384 a\nhigh 800\n"},
 		{"a page in another font", "font 6 2 2 5 11\n" + plain, "ok\nbox 0 0 0 6400 8\nline 1 0 0 5 a\nhigh 8\n"},
 		{"the last width and font count", "wide 70\nfont 6 2 2 5 11\nwide 80\nfont 7 2 2 9 11\n" + plain, "ok\nok\nok\nok\nbox 0 0 0 80 9\nline 1 0 0 9 a\nhigh 9\n"},
 		{"wrong ones change nothing", "wide 70\nfont 6 2 2 5 11\nwide 100001\nfont 9 9 9 9 0\nwide\nfont\n" + plain, "ok\nok\nno\nno\nwhat\nwhat\nbox 0 0 0 70 8\nline 1 0 0 5 a\nhigh 8\n"},
+		{"ones with needless noughts change nothing", "wide 70\nfont 6 2 2 5 11\nwide 0080\nfont 7 2 2 9 011\n" + plain, "ok\nok\nno\nno\nbox 0 0 0 70 8\nline 1 0 0 5 a\nhigh 8\n"},
 		{"a width counts for what is behind it", plain + "wide 70\n" + plain, "box 0 0 0 6400 800\nline 1 0 0 384 a\nhigh 800\nok\nbox 0 0 0 70 800\nline 1 0 0 384 a\nhigh 800\n"},
 		{"a page that is moved", "tree\n<right:1px;\n |a\n <down:-2px;\n  |b\nend\n", "box 0 64 0 6400 1600\nbox 2 64 672 6400 800\nline 1 64 0 384 a\nline 3 64 672 384 b\nhigh 1600\n"},
 		{"no tree", "tree\nend\n", "no\n"},
@@ -620,6 +623,11 @@ func TestRunPageAtChangedTexts(t *testing.T) {
 		checkRun(t, text[:n])
 		checkRun(t, text[n:])
 	}
+	eachText("012 ", 6, func(s string) {
+		checkRun(t, "wide "+s+"\n")
+		checkRun(t, "font 1 1 1 1 "+s+"\n")
+		checkRun(t, "font "+s+" 1 1 1 1\n")
+	})
 	eachText("wide 1\n", 5, func(s string) { checkRun(t, s); checkRun(t, "wide "+s+"\n"); checkRun(t, "tree\n<\n"+s+"end\n") })
 }
 
